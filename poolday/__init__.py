@@ -1,0 +1,1 @@
+"""A totalisator's day: the money in a card's pools."""
