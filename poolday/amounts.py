@@ -22,3 +22,30 @@ def is_right(money, combinations):
 def sum_of_cents(money):
     """All cents together."""
     return sum(money[1::2])
+
+
+def by_number(money):
+    """The cents of each number that a pair names."""
+    return dict(zip(money[0::2], money[1::2]))
+
+
+def in_pairs(cents):
+    """The money with these cents by number; what has none is no pair."""
+    money = []
+    for number in sorted(cents):
+        if cents[number] > 0:
+            money.extend([number, cents[number]])
+    return money
+
+
+def cents_on(money, number):
+    """The cents on the combination with this number."""
+    return by_number(money).get(number, 0)
+
+
+def with_stake(money, numbers, stake):
+    """The money with a stake more on each of these numbers."""
+    cents = by_number(money)
+    for number in numbers:
+        cents[number] = cents.get(number, 0) + stake
+    return in_pairs(cents)

@@ -24,22 +24,15 @@ class NoCard(ValueError):
     """The text is no card."""
 
 
-class Card:
-    """What a card holds: the interests of each race, rising, and the pools."""
-
-    def __init__(self, races, pools):
-        self.races = races
-        self.pools = pools
-
-
 class Pool:
-    """A pool of a card; race is a number from 1, as it stands in the card."""
+    """A pool of a card; races are the interests, rising, of its race or of each leg's race."""
 
-    def __init__(self, name, kind, k, race):
+    def __init__(self, name, kind, k, races, unit):
         self.name = name
         self.kind = kind
         self.k = k
-        self.race = race
+        self.races = races
+        self.unit = unit
 
 
 def demand(holds):
@@ -56,7 +49,7 @@ def number_within(word, lowest, highest):
 
 
 def read_card(codes):
-    """The card that a list of bytes is; NoCard if it is none."""
+    """The pools of the card that a list of bytes is; NoCard if it is none."""
     lines = lines_of(text_of(codes))
     demand(lines is not None and len(lines) > 0)
     check_day(lines[0])
@@ -67,7 +60,7 @@ def read_card(codes):
     demand(len(pool_lines) <= MOST_POOLS)
     pools = [read_pool(words, races) for words in pool_lines]
     check_names_differ(pools)
-    return Card(races, pools)
+    return pools
 
 
 def check_day(words):
@@ -112,7 +105,7 @@ def read_pool(words, races):
     kind = words[2]
     demand(kind in KINDS)
     k = number_within(words[3], KINDS[kind][0], KINDS[kind][1])
-    race = read_pool_race(words[5], kind, k, races)
+    own_races = read_pool_races(words[5], kind, k, races)
     number_within(words[7], 0, MOST_TAKE)
     number_within(words[9], 1, MOST_BREAK)
     unit = number_within(words[13], 1, MOST_UNIT)
@@ -120,17 +113,17 @@ def read_pool(words, races):
     demand(least == 0 or least >= unit)
     demand(words[15] in NONES)
     demand(words[15] != "fewer" or kind != "place")
-    return Pool(words[1], kind, k, race)
+    return Pool(words[1], kind, k, own_races, unit)
 
 
-def read_pool_race(word, kind, k, races):
-    """The number of a pool's race, or of its first one if it has legs."""
+def read_pool_races(word, kind, k, races):
+    """The interests of a pool's race, or of each of its races if it has legs."""
     race = number_within(word, 1, len(races))
     if kind == "legs":
         demand(race + k - 1 <= len(races))
-    else:
-        demand(len(races[race - 1]) >= k)
-    return race
+        return races[race - 1:race - 1 + k]
+    demand(len(races[race - 1]) >= k)
+    return [races[race - 1]]
 
 
 def check_names_differ(pools):

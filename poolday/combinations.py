@@ -1,24 +1,27 @@
-"""The combinations of a pool."""
+"""The combinations of a pool: how many there are, and their numbers.
+
+A combination is told by places here: where each of its numbers stands, from 0, among the
+interests of its race. Interests rise, so rows of places are in the order of rows of numbers.
+"""
 
 
-def count_combinations(card, pool):
-    """How many combinations a pool of a card has."""
+def count_combinations(pool):
+    """How many combinations a pool has."""
     if pool.kind == "legs":
-        return count_legs(card.races[pool.race - 1:pool.race - 1 + pool.k])
-    interests = len(card.races[pool.race - 1])
+        return count_choices(pool.races)
+    interests = len(pool.races[0])
     if pool.kind == "place":
         return interests
     if pool.kind == "order":
         return count_rows(interests, pool.k)
-    # Each set of k numbers can be put into as many rows as k numbers have orders.
-    return count_rows(interests, pool.k) // count_rows(pool.k, pool.k)
+    return count_sets(interests, pool.k)
 
 
-def count_legs(races):
-    """How many rows take one interest of each race."""
+def count_choices(lists):
+    """How many rows take one of each list."""
     rows = 1
-    for interests in races:
-        rows *= len(interests)
+    for choices in lists:
+        rows *= len(choices)
     return rows
 
 
@@ -28,3 +31,49 @@ def count_rows(interests, k):
     for taken in range(k):
         rows *= interests - taken
     return rows
+
+
+def count_sets(interests, k):
+    """How many sets of k ones there are of so many interests."""
+    # Each set of k can be put into as many rows as k ones have orders.
+    return count_rows(interests, k) // count_rows(k, k)
+
+
+def leg_numbers(sets, races):
+    """The numbers, rising, of all rows of legs whose i-th place is of the i-th set."""
+    numbers = [0]
+    for places, interests in zip(sets, races):
+        longer = []
+        for number in numbers:
+            longer.extend([number * len(interests) + place for place in places])
+        numbers = longer
+    return numbers
+
+
+def numbered_rows(sets, interests):
+    """All rows of different places whose i-th is of the i-th set, in order, each with its number.
+
+    The number is the row's among all rows of so many different places of so many interests.
+    """
+    rows = [((), 0)]
+    for places in sets:
+        longer = []
+        for row, number in rows:
+            free = [place for place in range(interests) if place not in row]
+            for lesser, place in enumerate(free):
+                if place in places:
+                    longer.append((row + (place,), number * len(free) + lesser))
+        rows = longer
+    return rows
+
+
+def set_number(row, interests):
+    """The number of a rising row among all rising rows of so many places."""
+    number = 0
+    lowest = 0
+    for at, place in enumerate(row):
+        rest = len(row) - at - 1
+        for lesser in range(lowest, place):
+            number += count_sets(interests - lesser - 1, rest)
+        lowest = place + 1
+    return number

@@ -2,6 +2,8 @@
 
 LETTERS = "abcdefghijklmnopqrstuvwxyz"
 DIGITS = "0123456789"
+# By their bytes, what else stands in a text: a blank, a line feed, and the marks of a bet's sets.
+MARKS = {32: " ", 10: "\n", 44: ",", 47: "/"}
 STRANGE = "?"
 MOST_NAME_BYTES = 12
 # The greatest number that any line may hold, a stake of 1,000,000, has 7 digits.
@@ -14,12 +16,8 @@ def sign_of(byte):
         return LETTERS[byte - ord("a")]
     if ord("0") <= byte <= ord("9"):
         return DIGITS[byte - ord("0")]
-    if byte == ord(" "):
-        return " "
-    if byte == ord("\n"):
-        return "\n"
-    # No name, number or fixed word has this sign, so the word that it is in is refused.
-    return STRANGE
+    # No name, number, set or fixed word has the strange sign, so the word that it is in is refused.
+    return MARKS.get(byte, STRANGE)
 
 
 def text_of(codes):

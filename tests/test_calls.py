@@ -1,13 +1,10 @@
 """judge and total: ordinary inputs, the refusals and their order."""
 
-import copy
-import subprocess
-import sys
 import unittest
 
-from poolday.pools import judge, total
-from tests.samples import (COUNTS, DAY, HIGHEST_CENTS, HIGHEST_POOL, MOST_CENTS, POOLS, RACES,
-                           CallTest, card_of, codes, pool_line)
+from poolday.pools import total
+from tests.samples import (COUNTS, DAY, HIGHEST_CENTS, HIGHEST_POOL, POOLS, RACES, CallTest,
+                           card_of, codes, pool_line)
 
 
 class Ordinary(CallTest):
@@ -78,64 +75,6 @@ class Refusals(CallTest):
     def test_no_such_pool_comes_ahead_of_wrong_money(self):
         self.assert_refused(-4, DAY, [0, 0], len(POOLS))
         self.assert_refused(-4, DAY, [HIGHEST_POOL, HIGHEST_CENTS], HIGHEST_POOL)
-
-
-class Untouched(unittest.TestCase):
-    """What is handed in stays as it was, and a second call answers the same."""
-
-    CASES = [
-        (0, DAY, [0, 5, 3, 9]),
-        (5, DAY, [0, 5, 2023, MOST_CENTS - 5]),
-        (7, DAY, []),
-        (0, DAY, [3, 9, 0, 5]),
-        (99, DAY, [0, 5]),
-        (0, DAY + "race 2\n", [0, 5]),
-        (0, "x" * 66000, [0, 5]),
-    ]
-
-    def test_nothing_is_changed(self):
-        for call in (judge, total):
-            for pool, text, money in self.CASES:
-                card = codes(text)
-                given = copy.deepcopy([card, money])
-                call(pool, card, money)
-                self.assertEqual(given, [card, money])
-
-    def test_nothing_is_changed_for_a_while_either(self):
-        class Fixed(list):
-            def refuse(self, *words, **more):
-                raise AssertionError("what was handed in is being changed")
-
-            append = clear = extend = insert = pop = remove = reverse = sort = refuse
-            __setitem__ = __delitem__ = __iadd__ = __imul__ = refuse
-
-        for call in (judge, total):
-            for pool, text, money in self.CASES:
-                call(pool, Fixed(codes(text)), Fixed(money))
-
-    def test_nothing_is_kept(self):
-        for call in (judge, total):
-            first = [call(pool, codes(text), list(money)) for pool, text, money in self.CASES]
-            for pool, text, money in reversed(self.CASES):
-                call(pool, codes(text), list(money))
-            second = [call(pool, codes(text), list(money)) for pool, text, money in self.CASES]
-            self.assertEqual(first, second)
-
-    def test_an_answer_that_is_changed_leaves_later_answers_alone(self):
-        for call in (judge, total):
-            for pool, text, money in self.CASES:
-                answer = call(pool, codes(text), money)
-                kept = list(answer)
-                answer.append(77)
-                self.assertEqual(kept, call(pool, codes(text), money))
-
-    def test_nothing_is_printed_or_read(self):
-        program = ("from poolday.pools import judge, total\n"
-                   "judge(0, list(b'day a\\nrace 2\\n'), [])\n"
-                   "total(0, [], [])\n")
-        done = subprocess.run([sys.executable, "-c", program], capture_output=True,
-                              stdin=subprocess.DEVNULL, check=True)
-        self.assertEqual((b"", b""), (done.stdout, done.stderr))
 
 
 if __name__ == "__main__":

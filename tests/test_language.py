@@ -25,6 +25,12 @@ OWN_METHODS = """append clear copy count endswith extend find get index insert i
     upper values zfill bit_length""".split()
 UNUSED_WORDS = """type typing typing_extensions enum Enum IntEnum StrEnum Flag IntFlag Generic
     Protocol ABC ABCMeta namedtuple NamedTuple TypedDict TYPE_CHECKING abstractmethod""".split()
+CALLS = {
+    "judge": "pool card money",
+    "total": "pool card money",
+    "on": "pool number card money",
+    "put": "card bet money",
+}
 
 
 class Language(unittest.TestCase):
@@ -102,8 +108,8 @@ class Interface(unittest.TestCase):
         tree = ast.parse((PACKAGE / "pools.py").read_text("utf-8"))
         found = {node.name: [arg.arg for arg in node.args.args] for node in tree.body
                  if isinstance(node, ast.FunctionDef)}
-        for call in ("judge", "total"):
-            self.assertEqual(["pool", "card", "money"], found[call])
+        for call, arguments in CALLS.items():
+            self.assertEqual(arguments.split(), found[call])
 
 
 if __name__ == "__main__":
