@@ -49,3 +49,22 @@ def with_stake(money, numbers, stake):
     for number in numbers:
         cents[number] = cents.get(number, 0) + stake
     return in_pairs(cents)
+
+
+def without_stake(money, numbers, stake):
+    """The money with a stake less on each of these numbers; None if one of them has less than that."""
+    cents = by_number(money)
+    for number in numbers:
+        left = cents.get(number, 0) - stake
+        if left < 0:
+            return None
+        cents[number] = left
+    return in_pairs(cents)
+
+
+def with_other(money, other):
+    """The money of both together."""
+    cents = by_number(money)
+    for number, more in zip(other[0::2], other[1::2]):
+        cents[number] = cents.get(number, 0) + more
+    return in_pairs(cents)

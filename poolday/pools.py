@@ -1,6 +1,6 @@
 """The calls: each answers a list of whole numbers, a refusal being one below 0 alone."""
 
-from poolday.amounts import cents_on, is_right, sum_of_cents, with_stake
+from poolday.amounts import cents_on, is_right, sum_of_cents, with_other, with_stake, without_stake
 from poolday.bets import NoBet, read_bet
 from poolday.cards import NoCard, read_card
 from poolday.combinations import count_combinations
@@ -52,6 +52,30 @@ def put(card, bet, money):
     if asked.bet.numbers is None:
         return [-9]
     after = with_stake(money, asked.bet.numbers, asked.bet.stake)
+    if not is_right(after, asked.combinations):
+        return [-9]
+    return [0] + after
+
+
+def back(card, bet, money):
+    """0 and the money with the bet taken back, or a refusal."""
+    asked = ask_bet(card, bet, money)
+    if asked.refusal < 0:
+        return [asked.refusal]
+    if asked.bet.numbers is None:
+        return [-5]
+    after = without_stake(money, asked.bet.numbers, asked.bet.stake)
+    if after is None:
+        return [-5]
+    return [0] + after
+
+
+def join(pool, card, money, other):
+    """0 and the money of both together, or a refusal."""
+    asked = ask_pool(pool, card, [money, other])
+    if asked.refusal < 0:
+        return [asked.refusal]
+    after = with_other(money, other)
     if not is_right(after, asked.combinations):
         return [-9]
     return [0] + after

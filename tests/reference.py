@@ -203,3 +203,22 @@ def put(card, bet, money):
     pool, stake, numbers = told
     after = gathered(spread(money) + spread([part for number in numbers for part in (number, stake)]))
     return [0] + after if is_right(after, len(pool.rows)) and len(numbers) <= 262144 else [-9]
+
+
+def back(card, bet, money):
+    refusal, told = asked_bet(card, bet, money)
+    if refusal:
+        return [refusal]
+    pool, stake, numbers = told
+    cents = spread(money)
+    if min(cents[number] for number in numbers) < stake or len(numbers) > 262144:
+        return [-5]
+    return [0] + gathered(cents - spread([part for number in numbers for part in (number, stake)]))
+
+
+def join(pool, card, money, other):
+    refusal, count = asked_pool(pool, card, money, other)
+    if refusal:
+        return [refusal]
+    after = gathered(spread(money) + spread(other))
+    return [0] + after if is_right(after, count) else [-9]

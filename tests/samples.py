@@ -3,7 +3,8 @@
 import collections
 import unittest
 
-from poolday.pools import judge, put, total
+from poolday.pools import back, judge, put, total
+from tests import reference
 
 HIGHEST_POOL = 4294967295
 HIGHEST_CENTS = 18446744073709551615
@@ -105,6 +106,11 @@ def bet_of(name, stake, form):
     return codes(f"bet {name} for {stake} {form}\n")
 
 
+def numbers_of(sample, form):
+    """The numbers of a bet's combinations, as the reference lists them."""
+    return reference.bet_of(reference.pools_of(sample.card), bet_of(sample.name, 5, form))[2]
+
+
 def money_on(numbers, cents):
     """Money with so many cents on each of these numbers."""
     return [part for number in numbers for part in (number, cents)]
@@ -160,12 +166,14 @@ class BetTest(CallTest):
         answer = put(codes(card), codes(text), [])
         self.assertEqual(0, answer[0], text)
         self.assert_answer(answer, answer)
+        self.assert_answer([0], back(codes(card), codes(text), answer[1:]))
 
     def assert_no_text(self, text, card=CARD):
         self.assert_bet_refused(-6, card, text)
 
     def assert_bet_refused(self, number, card, text, money=()):
-        self.assert_answer([number], put(codes(card), codes(text), list(money)))
+        for call in (put, back):
+            self.assert_answer([number], call(codes(card), codes(text), list(money)))
 
     def assert_form(self, name, form):
         self.assert_text(f"bet {name} for 1 {form}\n")

@@ -30,6 +30,8 @@ CALLS = {
     "total": "pool card money",
     "on": "pool number card money",
     "put": "card bet money",
+    "back": "card bet money",
+    "join": "pool card money other",
 }
 
 

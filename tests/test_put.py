@@ -6,18 +6,13 @@ import unittest
 from poolday.pools import judge, put
 from tests import reference
 from tests.samples import (DAY, HIGHEST_CENTS, HIGHEST_POOL, MOST_CENTS, SAMPLES, BetTest, bet_of, card_of, codes,
-                           forms_of, money_on, on_of, pool_line, set_of)
+                           forms_of, money_on, numbers_of, on_of, pool_line, set_of)
 
 TWENTYFOUR = range(1, 25)
 SIX_LEGS = codes(card_of(["24"] * 6, [pool_line("p", "legs 6", unit=1)]))
 # 262,144 combinations of six legs, and the next larger count that six legs can have.
 MOST_SETS = on_of([range(1, 9)] * 6)
 MORE_SETS = on_of([range(1, width + 1) for width in (1, 2, 15, 19, 20, 23)])
-
-
-def numbers_of(sample, form):
-    """The numbers of a bet's combinations, as the reference lists them."""
-    return reference.bet_of(reference.pools_of(sample.card), bet_of(sample.name, 5, form))[2]
 
 
 class Numbers(BetTest):

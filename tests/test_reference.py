@@ -102,6 +102,17 @@ def some_money(rng, count, most_pairs=5):
     return money
 
 
+def some_stakes(rng, right):
+    """Money that mostly has a bet's stake on all its numbers, on some of them just that."""
+    pool, stake, numbers = right
+    cents = dict.fromkeys(rng.sample(range(len(pool.rows)), rng.randint(0, len(pool.rows))), 3)
+    for number in numbers:
+        cents[number] = stake + rng.choice([0, 0, 1, stake])
+    if rng.random() < 0.3:
+        cents[rng.choice(numbers)] = rng.randint(1, stake)
+    return [part for number in sorted(cents) for part in (number, cents[number])]
+
+
 class AgainstTheReference(unittest.TestCase):
     def setUp(self):
         self.rng = random.Random(20261116)
@@ -132,7 +143,9 @@ class AgainstTheReference(unittest.TestCase):
             self.compare("judge", pool, card, money)
             self.compare("total", pool, card, money)
             self.compare("on", pool, number, card, money)
-        for call in ("judge", "total", "on"):
+            self.compare("join", pool, card, money, some_money(self.rng, count))
+            self.compare("join", pool, card, money, money)
+        for call in ("judge", "total", "on", "join"):
             self.assert_often(call, 0, -8, -4, -3)
         self.assert_often("on", -1)
 
@@ -143,7 +156,12 @@ class AgainstTheReference(unittest.TestCase):
             right = reference.bet_of(told, bet)
             money = some_money(self.rng, len(right[0].rows) if right else 9)
             self.compare("put", card, bet, money)
-        self.assert_often("put", 0, -8, -6, -3)
+            self.compare("back", card, bet, money)
+            if right and right[1] < 10 ** 6:
+                self.compare("back", card, bet, some_stakes(self.rng, right))
+        for call in ("put", "back"):
+            self.assert_often(call, 0, -8, -6, -3)
+        self.assert_often("back", -5)
 
 
 if __name__ == "__main__":

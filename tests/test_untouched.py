@@ -5,7 +5,7 @@ import subprocess
 import sys
 import unittest
 
-from poolday.pools import judge, on, put, total
+from poolday.pools import back, join, judge, on, put, total
 from tests.samples import DAY, MOST_CENTS, codes
 
 BETS = ["bet win for 100 on 1,3\n", "bet exacta for 100 box 1,2,5\n", "bet exacta for 200 key 1 with 2,3\n",
@@ -25,12 +25,18 @@ def on_cases():
     return [(on, (pool, number, card, money)) for call, (pool, card, money) in cases for number in (0, 3, 9999)]
 
 
+def join_cases():
+    """Among them money and other that are one and the same list."""
+    cases = [(join, (pool, card, money, money)) for call, (pool, card, money) in pool_cases(join)]
+    return cases + [(join, (2, codes(DAY), money, other)) for money in MONEYS for other in MONEYS]
+
+
 def bet_cases(call):
     cases = [(call, (codes(DAY), codes(bet), money)) for bet in BETS + NO_BETS for money in MONEYS]
     return cases + [(call, (codes(text), codes(BETS[0]), [0, 5])) for text in NO_CARDS]
 
 
-CASES = pool_cases(judge) + pool_cases(total) + on_cases() + bet_cases(put)
+CASES = pool_cases(judge) + pool_cases(total) + on_cases() + join_cases() + bet_cases(put) + bet_cases(back)
 
 
 class Fixed(list):
@@ -99,7 +105,8 @@ class Untouched(unittest.TestCase):
 
 
 PROGRAM_CALLS = [("judge", "(0, card, [])"), ("total", "(0, [], [])"), ("total", "(0, card, [0, 1])"),
-                 ("on", "(0, 0, card, [])"), ("put", "(card, bet, [])"), ("put", "(card, [], [])")]
+                 ("on", "(0, 0, card, [])"), ("put", "(card, bet, [])"), ("put", "(card, [], [])"),
+                 ("back", "(card, bet, [0, 1])"), ("back", "(card, bet, [])"), ("join", "(0, card, [0, 1], [])")]
 
 
 if __name__ == "__main__":
