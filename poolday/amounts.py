@@ -43,6 +43,12 @@ def cents_on(money, number):
     return by_number(money).get(number, 0)
 
 
+def sum_on(money, numbers):
+    """The cents on the combinations with these numbers together."""
+    cents = by_number(money)
+    return sum([cents.get(number, 0) for number in numbers])
+
+
 def with_stake(money, numbers, stake):
     """The money with a stake more on each of these numbers."""
     cents = by_number(money)

@@ -50,6 +50,23 @@ def leg_numbers(sets, races):
     return numbers
 
 
+def leg_numbers_among(numbers, sets, races):
+    """Those of these numbers whose row of legs has its i-th place in the i-th set."""
+    return [number for number in numbers if is_leg_number(number, sets, races)]
+
+
+def is_leg_number(number, sets, races):
+    """Whether the row of legs with this number has its i-th place in the i-th set."""
+    rest = number
+    # The last leg changes first from one number to the next, so it is told apart first.
+    for leg in range(len(races) - 1, -1, -1):
+        interests = len(races[leg])
+        if rest % interests not in sets[leg]:
+            return False
+        rest //= interests
+    return True
+
+
 def numbered_rows(sets, interests):
     """All rows of different places whose i-th is of the i-th set, in order, each with its number.
 

@@ -1,9 +1,9 @@
 """The calls: each answers a list of whole numbers, a refusal being one below 0 alone."""
 
-from poolday.amounts import cents_on, is_right, sum_of_cents, with_other, with_stake, without_stake
+from poolday.amounts import cents_on, is_right, sum_of_cents, sum_on, with_other, with_stake, without_stake
 from poolday.bets import NoBet, read_bet
 from poolday.cards import NoCard, read_card
-from poolday.combinations import count_combinations
+from poolday.combinations import count_combinations, leg_numbers_among
 
 MOST_CARD_BYTES = 65536
 MOST_BET_BYTES = 4096
@@ -79,6 +79,18 @@ def join(pool, card, money, other):
     if not is_right(after, asked.combinations):
         return [-9]
     return [0] + after
+
+
+def bet(card, bet, money):
+    """0 and the cents on all combinations of the bet together, or a refusal."""
+    asked = ask_bet(card, bet, money)
+    if asked.refusal < 0:
+        return [asked.refusal]
+    numbers = asked.bet.numbers
+    if numbers is None:
+        # Legs may have millions of combinations; what money names is far less.
+        numbers = leg_numbers_among(money[0::2], asked.bet.sets, asked.bet.pool.races)
+    return [0, sum_on(money, numbers)]
 
 
 def ask_pool(pool, card, moneys):

@@ -222,3 +222,11 @@ def join(pool, card, money, other):
         return [refusal]
     after = gathered(spread(money) + spread(other))
     return [0] + after if is_right(after, count) else [-9]
+
+
+def bet(card, text, money):
+    refusal, told = asked_bet(card, text, money)
+    if refusal:
+        return [refusal]
+    pool, stake, numbers = told
+    return [0, sum(spread(money)[number] for number in numbers)]

@@ -3,7 +3,7 @@
 import collections
 import unittest
 
-from poolday.pools import back, judge, put, total
+from poolday.pools import back, bet, judge, put, total
 from tests import reference
 
 HIGHEST_POOL = 4294967295
@@ -167,12 +167,14 @@ class BetTest(CallTest):
         self.assertEqual(0, answer[0], text)
         self.assert_answer(answer, answer)
         self.assert_answer([0], back(codes(card), codes(text), answer[1:]))
+        self.assert_answer([0, sum(answer[2::2])], bet(codes(card), codes(text), answer[1:]))
+        self.assert_answer([0, 0], bet(codes(card), codes(text), []))
 
     def assert_no_text(self, text, card=CARD):
         self.assert_bet_refused(-6, card, text)
 
     def assert_bet_refused(self, number, card, text, money=()):
-        for call in (put, back):
+        for call in (put, back, bet):
             self.assert_answer([number], call(codes(card), codes(text), list(money)))
 
     def assert_form(self, name, form):

@@ -32,6 +32,7 @@ CALLS = {
     "put": "card bet money",
     "back": "card bet money",
     "join": "pool card money other",
+    "bet": "card bet money",
 }
 
 

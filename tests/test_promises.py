@@ -28,6 +28,77 @@ class Promises(unittest.TestCase):
                 if reference.is_right(money, count):
                     return card, bet, money, right
 
+    def some_bets(self):
+        """A card and bets of it that are all on one pool."""
+        card, text, money, right = self.some_bet_and_money()
+        told = [right[0]]
+        bets = [text]
+        while len(bets) < 5:
+            text = codes(some_bet(self.rng, told))
+            if reference.bet_of(told, text) is not None:
+                bets.append(text)
+        return card, bets
+
+    def run_steps(self, card, steps, money):
+        """The money behind all steps; None if one of them is refused."""
+        for call, text in steps:
+            answer = call(card, text, money)
+            if answer[0] != 0:
+                return None
+            money = answer[1:]
+        return money
+
+    def sum_of(self, card, steps):
+        """The sum of the bets put in less those taken back, as the reference lists them."""
+        told = reference.pools_of(card)
+        cents = {}
+        for call, text in steps:
+            pool, stake, numbers = reference.bet_of(told, text)
+            for number in numbers:
+                cents[number] = cents.get(number, 0) + (stake if call == put else -stake)
+        return [part for number in sorted(cents) if cents[number] for part in (number, cents[number])]
+
+    def test_d1_bets_put_in_and_taken_back_in_several_orders(self):
+        answered = refused = 0
+        for case in range(CASES // 5):
+            card, bets = self.some_bets()
+            steps = [(put, text) for text in bets + bets[:1]]
+            steps += [(back, text) for text in self.rng.sample(bets, 3)]
+            expected = self.sum_of(card, steps)
+            for order in range(6):
+                money = self.run_steps(card, steps, [])
+                if money is None:
+                    refused += 1
+                else:
+                    answered += 1
+                    self.assertEqual(expected, money)
+                self.rng.shuffle(steps)
+        self.assertGreater(answered, CASES // 5)
+        self.assertGreater(refused, CASES // 50)
+
+    def test_d1_for_every_form(self):
+        for sample in SAMPLES:
+            bets = [bet_of(sample.name, 5 * (at + 1), form) for at, form in enumerate(forms_of(sample))]
+            steps = [(put, text) for text in bets]
+            money = self.run_steps(sample.card, steps, [])
+            self.assertEqual(self.sum_of(sample.card, steps), money)
+            self.assertEqual(money, self.run_steps(sample.card, steps[::-1], []))
+            rest = [(back, text) for text in bets[::2]]
+            left = self.run_steps(sample.card, rest, money)
+            self.assertEqual(self.sum_of(sample.card, steps + rest), left)
+            self.assertEqual(left, self.run_steps(sample.card, rest[::-1], money))
+            self.assertEqual(left, self.run_steps(sample.card, steps[1::2], []))
+
+    def test_d1_money_of_houses_joined_is_that_of_one_house(self):
+        for case in range(CASES // 5):
+            card, bets = self.some_bets()
+            pools = reference.pools_of(card)
+            at = pools.index(reference.bet_of(pools, bets[0])[0])
+            whole = self.run_steps(card, [(put, text) for text in bets], [])
+            here = self.run_steps(card, [(put, text) for text in bets[:2]], [])
+            there = self.run_steps(card, [(put, text) for text in bets[2:]], [])
+            self.assertEqual([0] + whole, join(at, card, here, there))
+
     def test_d2_taken_back_what_was_put_in(self):
         for case in range(CASES):
             card, bet, money, right = self.some_bet_and_money()

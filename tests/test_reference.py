@@ -155,11 +155,13 @@ class AgainstTheReference(unittest.TestCase):
             bet = codes(some_bet(self.rng, told))
             right = reference.bet_of(told, bet)
             money = some_money(self.rng, len(right[0].rows) if right else 9)
-            self.compare("put", card, bet, money)
-            self.compare("back", card, bet, money)
-            if right and right[1] < 10 ** 6:
-                self.compare("back", card, bet, some_stakes(self.rng, right))
-        for call in ("put", "back"):
+            for call in ("put", "back", "bet"):
+                self.compare(call, card, bet, money)
+            if right:
+                stakes = some_stakes(self.rng, right)
+                self.compare("back", card, bet, stakes)
+                self.compare("bet", card, bet, stakes)
+        for call in ("put", "back", "bet"):
             self.assert_often(call, 0, -8, -6, -3)
         self.assert_often("back", -5)
 

@@ -5,14 +5,18 @@ import subprocess
 import sys
 import unittest
 
-from poolday.pools import back, join, judge, on, put, total
-from tests.samples import DAY, MOST_CENTS, codes
+from poolday.pools import back, bet, join, judge, on, put, total
+from tests.samples import DAY, MOST_CENTS, card_of, codes, on_of, pool_line
 
 BETS = ["bet win for 100 on 1,3\n", "bet exacta for 100 box 1,2,5\n", "bet exacta for 200 key 1 with 2,3\n",
         "bet quinella for 100 on 1,2 / 2,3\n", "bet double for 100 on 1,5 / 2,3\n"]
 NO_BETS = ["", "bet win for 100 on 4\n", "x" * 4200]
 NO_CARDS = [DAY + "race 2\n", "x" * 66000]
 MONEYS = [[], [0, 500, 2, 900], [0, 100, 1, 100, 2, 100, 3, 100], [2, MOST_CENTS], [3, 9, 0, 5], [0, 0]]
+
+# More than 262,144 combinations.
+MANY = card_of(["24"] * 6, [pool_line("six", "legs 6", unit=1)])
+MANY_BET = f"bet six for 1 {on_of([range(1, 25)] * 6)}\n"
 
 
 def pool_cases(call):
@@ -32,11 +36,13 @@ def join_cases():
 
 
 def bet_cases(call):
-    cases = [(call, (codes(DAY), codes(bet), money)) for bet in BETS + NO_BETS for money in MONEYS]
+    cases = [(call, (codes(DAY), codes(text), money)) for text in BETS + NO_BETS for money in MONEYS]
+    cases += [(call, (codes(MANY), codes(MANY_BET), money)) for money in MONEYS]
     return cases + [(call, (codes(text), codes(BETS[0]), [0, 5])) for text in NO_CARDS]
 
 
-CASES = pool_cases(judge) + pool_cases(total) + on_cases() + join_cases() + bet_cases(put) + bet_cases(back)
+CASES = (pool_cases(judge) + pool_cases(total) + on_cases() + join_cases()
+         + bet_cases(put) + bet_cases(back) + bet_cases(bet))
 
 
 class Fixed(list):
@@ -106,7 +112,8 @@ class Untouched(unittest.TestCase):
 
 PROGRAM_CALLS = [("judge", "(0, card, [])"), ("total", "(0, [], [])"), ("total", "(0, card, [0, 1])"),
                  ("on", "(0, 0, card, [])"), ("put", "(card, bet, [])"), ("put", "(card, [], [])"),
-                 ("back", "(card, bet, [0, 1])"), ("back", "(card, bet, [])"), ("join", "(0, card, [0, 1], [])")]
+                 ("back", "(card, bet, [0, 1])"), ("back", "(card, bet, [])"), ("join", "(0, card, [0, 1], [])"),
+                 ("bet", "(card, bet, [0, 1])"), ("bet", "(card, bet, [0, 0])")]
 
 
 if __name__ == "__main__":
